@@ -1,0 +1,1 @@
+"""gutfrets: instruments with tied frets, read from texts and told exactly."""

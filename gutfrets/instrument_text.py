@@ -1,0 +1,108 @@
+"""Reads an instrument from its text."""
+
+from gutfrets.interval import is_interval, is_wider, unison, upon
+from gutfrets.interval_text import read_interval
+from gutfrets.reading import NO_BYTE, ONE, Reader, TextFault, expect, read_number
+
+LEAST_LENGTH = 10000
+MOST_LENGTH = 200000
+MOST_LENGTH_DIGITS = 7
+MOST_FRETS = 15
+MOST_STRINGS = 14
+
+
+class Instrument:
+    """A length, and the intervals of frets, courses and basses in their order."""
+
+    def __init__(self, length):
+        self.length = length
+        self.frets = []
+        self.courses = []
+        self.basses = []
+
+
+def count_strings(instrument):
+    """How many courses and basses there are."""
+    return len(instrument.courses) + len(instrument.basses)
+
+
+def read_instrument(t):
+    """The instrument whose text t is; raises TextFault where t is none's."""
+    reader = Reader(t)
+    instrument = Instrument(read_length(reader))
+    while reader.peek() != NO_BYTE or len(instrument.courses) == 0:
+        read_line(reader, instrument)
+    return instrument
+
+
+def read_length(reader):
+    """Reads the first line; answers the length."""
+    expect(reader, "length ")
+    start = reader.place
+    length = read_number(reader, ONE, MOST_LENGTH_DIGITS)
+    if length < LEAST_LENGTH or length > MOST_LENGTH:
+        raise TextFault(start)
+    expect(reader, "\n")
+    return length
+
+
+def read_line(reader, instrument):
+    """Reads one line behind the first into the instrument."""
+    first = reader.peek()
+    if first == ord("f") and len(instrument.courses) == 0:
+        read_fret(reader, instrument)
+    elif first == ord("c") and len(instrument.basses) == 0:
+        read_course(reader, instrument)
+    elif first == ord("b") and len(instrument.courses) > 0:
+        read_bass(reader, instrument)
+    else:
+        raise TextFault(reader.place)
+
+
+def read_word(reader, word, is_one_too_many):
+    """Reads a line's first word and the blank behind it."""
+    start = reader.place
+    expect(reader, word)
+    # Ahead of the blank, as this is looked at behind the word.
+    if is_one_too_many:
+        raise TextFault(start)
+    expect(reader, " ")
+
+
+def read_fret(reader, instrument):
+    """Reads a fret's line."""
+    read_word(reader, "fret", len(instrument.frets) == MOST_FRETS)
+    start = reader.place
+    x = read_interval(reader)
+    before = instrument.frets[-1] if len(instrument.frets) > 0 else unison()
+    if not is_wider(x, before):
+        raise TextFault(start)
+    expect(reader, "\n")
+    instrument.frets.append(x)
+
+
+def read_course(reader, instrument):
+    """Reads a course's line."""
+    read_word(reader, "course", count_strings(instrument) == MOST_STRINGS)
+    start = reader.place
+    x = read_interval(reader)
+    if not sounds_with_each(x, instrument.frets):
+        raise TextFault(start)
+    expect(reader, "\n")
+    instrument.courses.append(x)
+
+
+def read_bass(reader, instrument):
+    """Reads a bass's line."""
+    read_word(reader, "bass", count_strings(instrument) == MOST_STRINGS)
+    x = read_interval(reader)
+    expect(reader, "\n")
+    instrument.basses.append(x)
+
+
+def sounds_with_each(x, frets):
+    """Whether a course tuned to x sounds an interval with each of the frets."""
+    for fret in frets:
+        if not is_interval(upon(fret, x)):
+            return False
+    return True
