@@ -1,6 +1,7 @@
 """Reads an instrument from its text."""
 
-from gutfrets.interval import is_interval, is_wider, unison, upon
+from gutfrets.instrument import Instrument, count_strings, sounds_with_each
+from gutfrets.interval import is_wider, unison
 from gutfrets.interval_text import read_interval
 from gutfrets.reading import NO_BYTE, ONE, Reader, TextFault, expect, read_number
 
@@ -9,21 +10,6 @@ MOST_LENGTH = 200000
 MOST_LENGTH_DIGITS = 7
 MOST_FRETS = 15
 MOST_STRINGS = 14
-
-
-class Instrument:
-    """A length, and the intervals of frets, courses and basses in their order."""
-
-    def __init__(self, length):
-        self.length = length
-        self.frets = []
-        self.courses = []
-        self.basses = []
-
-
-def count_strings(instrument):
-    """How many courses and basses there are."""
-    return len(instrument.courses) + len(instrument.basses)
 
 
 def read_instrument(t):
@@ -98,11 +84,3 @@ def read_bass(reader, instrument):
     x = read_interval(reader)
     expect(reader, "\n")
     instrument.basses.append(x)
-
-
-def sounds_with_each(x, frets):
-    """Whether a course tuned to x sounds an interval with each of the frets."""
-    for fret in frets:
-        if not is_interval(upon(fret, x)):
-            return False
-    return True

@@ -53,14 +53,19 @@ def raised(base, power):
     return product
 
 
-def is_wider(x, y):
-    """Whether x is wider than y; in whole numbers, as two ratios may be closer than any rounding can tell."""
+def ratio_of(powers):
+    """The ratio of 2, 3, 5, 7 to these whole powers: a tuple of what is above and what is below."""
     above = 1
     below = 1
     for k in range(4):
-        power = x[k] * y[4] - y[k] * x[4]
-        if power > 0:
-            above = above * raised(PRIMES[k], power)
+        if powers[k] > 0:
+            above = above * raised(PRIMES[k], powers[k])
         else:
-            below = below * raised(PRIMES[k], -power)
-    return above > below
+            below = below * raised(PRIMES[k], -powers[k])
+    return (above, below)
+
+
+def is_wider(x, y):
+    """Whether x is wider than y; in whole numbers, as two ratios may be closer than any rounding can tell."""
+    ratio = ratio_of([x[k] * y[4] - y[k] * x[4] for k in range(4)])
+    return ratio[0] > ratio[1]

@@ -1,7 +1,8 @@
-"""What the tests share: writing texts, and a second reading of them by other means."""
+"""What the tests share: writing texts, a second reading of them and second answers by other means, some instruments."""
 
 import math
 import re
+from decimal import Context, Decimal
 from fractions import Fraction
 
 from gutfrets.instruments import judge, sizes
@@ -11,6 +12,9 @@ WORDS = {"f": "fret", "c": "course", "b": "bass"}
 LENGTH = re.compile("[1-9][0-9]{0,6}")
 FACTOR = re.compile(r"([2357])(?:\^(0|-?[1-9][0-9]{0,3})(/(?:0|[1-9][0-9]{0,3}))?)?")
 DIGITS = tuple("0123456789")
+# Far more digits than any two intervals asked for here agree in.
+EXACT = Context(prec=150)
+LOGARITHMS = [EXACT.ln(Decimal(prime)) for prime in PRIMES]
 
 
 def as_bytes(text):
@@ -174,3 +178,85 @@ def answers_of_second_reading(text):
     if isinstance(read, int):
         return fault_at(read)
     return [[read[2] + read[3]], read]
+
+
+def powers_of(x):
+    """The four powers of an interval told as five numbers."""
+    return [Fraction(power, x[4]) for power in x[:4]]
+
+
+def numbers_of(powers):
+    """The five numbers of four powers, in lowest terms."""
+    divisor = math.lcm(*[power.denominator for power in powers])
+    return [int(power * divisor) for power in powers] + [divisor]
+
+
+def size_of(powers):
+    """The logarithm of a ratio, to many digits."""
+    size = Decimal(0)
+    for power, logarithm in zip(powers, LOGARITHMS):
+        part = EXACT.multiply(Decimal(power.numerator), logarithm)
+        size = EXACT.add(size, EXACT.divide(part, Decimal(power.denominator)))
+    return size
+
+
+def second_lies(length, powers):
+    """Where a fret lies: by fractions if the ratio is one, else by decimals, as it is then never in the middle."""
+    if all(power.denominator == 1 for power in powers):
+        ratio = math.prod([Fraction(prime) ** int(power) for prime, power in zip(PRIMES, powers)])
+        return math.ceil(length - length / ratio - Fraction(1, 2))
+    rest = EXACT.multiply(Decimal(length), EXACT.exp(-size_of(powers)))
+    return math.ceil(EXACT.subtract(Decimal(length) - Decimal("0.5"), rest))
+
+
+def second_places(frets, courses, basses):
+    """All places in their order: the course, the fret and the four powers of what it sounds."""
+    raises = [[Fraction(0)] * 4] + [powers_of(fret) for fret in frets]
+    places = []
+    for c, course in enumerate(courses, 1):
+        places += [(c, f, sum_of(powers_of(course), fret)) for f, fret in enumerate(raises)]
+    places += [(c, 0, powers_of(bass)) for c, bass in enumerate(basses, len(courses) + 1)]
+    return places
+
+
+def some_interval(source):
+    """Any interval, often one of small numbers."""
+    most = source.choice((2, 9, 99))
+    divisor = source.choice((1, 1, 2, 3, 4, 6, 12, 24, source.randint(1, 24)))
+    powers = [source.choice((0, 1, source.randint(-most, most))) for k in range(4)]
+    factor = math.gcd(*powers, divisor)
+    return [power // factor for power in powers] + [divisor // factor]
+
+
+def some_frets(source, courses):
+    """Some frets that rise and sound an interval with each of the courses."""
+    frets = []
+    for k in range(source.randint(0, 40)):
+        fret = some_interval(source)
+        before = powers_of(frets[-1]) if frets else [Fraction(0)] * 4
+        powers = powers_of(fret)
+        sounds = all(is_bounded(sum_of(powers, powers_of(course))) for course in courses)
+        if sounds and is_rising(before, powers) and len(frets) < 15:
+            frets.append(fret)
+    return frets
+
+
+def some_instrument(source):
+    """A length, frets, courses and basses: any ones, or ones of equal or of pure steps, many of which sound alike."""
+    length = source.randint(10000, 200000)
+    strings = source.randint(1, 14)
+    count = source.randint(1, strings)
+    kind = source.choice(("any", "equal", "pure"))
+    if kind == "any":
+        told = [some_interval(source) for k in range(strings)]
+        return length, some_frets(source, told[:count]), told[:count], told[count:]
+    if kind == "equal":
+        steps = source.choice((5, 7, 12, 19, 24))
+        told = [numbers_of([Fraction(source.randint(-20, 20), steps)] + [Fraction(0)] * 3) for k in range(strings)]
+        frets = [numbers_of([Fraction(k, steps)] + [Fraction(0)] * 3) for k in range(1, source.randint(1, 16))]
+        return length, frets, told[:count], told[count:]
+    told = [[source.randint(-2, 2), source.randint(-1, 1), source.randint(-1, 1), 0, 1] for k in range(strings)]
+    pure = ([4, -1, -1, 0, 1], [-3, 2, 0, 0, 1], [1, 1, -1, 0, 1], [-2, 0, 1, 0, 1], [2, -1, 0, 0, 1], [-1, 1, 0, 0, 1],
+            [3, 0, -1, 0, 1], [0, -1, 1, 0, 1], [-2, 0, 0, 1, 1], [-3, 1, 1, 0, 1], [1, 0, 0, 0, 1], [0, 1, 0, 0, 1])
+    frets = [x for x in pure if source.random() < 0.7]
+    return length, frets, told[:count], told[count:]

@@ -2,36 +2,56 @@
 
 import unittest
 
-from gutfrets.instruments import judge, sizes
+from gutfrets.instruments import judge, lies, sizes, sound
 from helper import as_bytes, lines
 
 HEAD = "length 60000\n"
 END = "course 1\n"
+TEXTS = (
+    HEAD + lines("fret 2^1/12", "fret 2^1/6") + END + "bass 2^-1\n", HEAD, "", HEAD + END * 15,
+    HEAD + lines("fret 2^1/12", "fret 2^1/12"), HEAD + END + "x" * 5000, "length 9", HEAD + END,
+)
+# The calls, each with some arguments: a list stands for x, and None for t.
+CALLS = (
+    (judge, None), (sizes, None), (lies, 0, None), (lies, 2, None), (lies, 3, None), (sound, 1, 0, None),
+    (sound, 1, 2, None), (sound, 2, 0, None), (sound, 3, 0, None),
+)
+
+
+def handed_to(call, t):
+    """The arguments of a call with the text t, its lists anew."""
+    return [t if value is None else list(value) if isinstance(value, list) else value for value in call[1:]]
 
 
 class HandedInTest(unittest.TestCase):
-    def test_nothing_is_changed_or_kept(self):
-        texts = (
-            HEAD + lines("fret 2^1/12", "fret 2^1/6") + END + "bass 2^-1\n", HEAD, "", HEAD + END * 15,
-            HEAD + lines("fret 2^1/12", "fret 2^1/12"), HEAD + END + "x" * 5000, "length 9", HEAD + END,
-        )
-        handed = [as_bytes(text) for text in texts]
-        first = [[judge(t), sizes(t)] for t in handed]
+    def test_nothing_is_changed(self):
+        for text in TEXTS:
+            for call in CALLS:
+                arguments = handed_to(call, as_bytes(text))
+                call[0](*arguments)
+                self.assertEqual(arguments, handed_to(call, as_bytes(text)))
+
+    def test_nothing_is_kept(self):
+        texts = [as_bytes(text) for text in TEXTS]
+        first = [[call[0](*handed_to(call, t)) for call in CALLS] for t in texts]
         for k in (3, 0, 7, 1, 5, 2, 6, 4, 4, 0):
-            self.assertEqual([judge(handed[k]), sizes(handed[k])], first[k])
-            self.assertEqual([sizes(handed[k]), judge(handed[k])], first[k][::-1])
-            self.assertEqual(handed[k], as_bytes(texts[k]))
+            again = [call[0](*handed_to(call, texts[k])) for call in CALLS]
+            backwards = [call[0](*handed_to(call, texts[k])) for call in CALLS[::-1]]
+            self.assertEqual(again, first[k])
+            self.assertEqual(backwards[::-1], first[k])
 
     def test_what_is_given_back_is_a_new_list_of_whole_numbers(self):
-        for text in (HEAD + END, HEAD, "x" * 5000):
-            t = as_bytes(text)
-            for call in (judge, sizes):
-                given = call(t)
+        for text in TEXTS:
+            for call in CALLS:
+                arguments = handed_to(call, as_bytes(text))
+                given = call[0](*arguments)
                 self.assertIs(type(given), list)
                 self.assertEqual([type(number) for number in given], [int] * len(given))
                 kept = list(given)
                 given.append(7)
-                self.assertEqual(call(t), kept)
+                given[0] = 5
+                self.assertEqual(call[0](*arguments), kept)
+                self.assertEqual(arguments, handed_to(call, as_bytes(text)))
 
 
 if __name__ == "__main__":

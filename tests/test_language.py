@@ -169,7 +169,7 @@ class LanguageTest(unittest.TestCase):
         for place, node in self.each(ast.Try):
             self.assertEqual(node.finalbody, [], place)
             for handler in node.handlers:
-                self.assertEqual(handler.type.id, "TextFault", place)
+                self.assertIn(handler.type.id, ("TextFault", "Refusal"), place)
         for place, node in self.each(ast.Raise):
             self.assertIsInstance(node.exc, ast.Call, place)
         for place, node in self.each(ast.Expr):

@@ -2,11 +2,9 @@
 
 import random
 import unittest
-from fractions import Fraction
-from math import gcd
 
 from gutfrets.instrument_text import read_instrument
-from helper import answers, as_bytes, is_bounded, is_rising, lines, sum_of, write_instrument
+from helper import answers, as_bytes, lines, some_frets, some_interval, write_instrument
 
 
 class OrdinaryTest(unittest.TestCase):
@@ -53,32 +51,6 @@ class OrdinaryTest(unittest.TestCase):
     def test_basses_alike_and_in_any_order(self):
         text = lines("length 60000", "course 2", "course 2", "course 1", "bass 3", "bass 1", "bass 3")
         self.check(text, 60000, 0, 3, 3)
-
-
-def some_interval(source):
-    """Any interval, often one of small numbers."""
-    most = source.choice((2, 9, 99))
-    divisor = source.choice((1, 1, 2, 3, 4, 6, 12, 24, source.randint(1, 24)))
-    powers = [source.choice((0, 1, source.randint(-most, most))) for k in range(4)]
-    factor = gcd(*powers, divisor)
-    return [power // factor for power in powers] + [divisor // factor]
-
-
-def fractions_of(x):
-    return [Fraction(power, x[4]) for power in x[:4]]
-
-
-def some_frets(source, courses):
-    """Some frets that rise and sound an interval with each of the courses."""
-    frets = []
-    for k in range(source.randint(0, 40)):
-        fret = some_interval(source)
-        before = fractions_of(frets[-1]) if frets else [Fraction(0)] * 4
-        powers = fractions_of(fret)
-        sounds = all(is_bounded(sum_of(powers, fractions_of(course))) for course in courses)
-        if sounds and is_rising(before, powers) and len(frets) < 15:
-            frets.append(fret)
-    return frets
 
 
 class OneToOneTest(unittest.TestCase):

@@ -1,0 +1,29 @@
+"""Why a call is refused: an error class for each refusal, under one that holds the number answered."""
+
+
+class Refusal(Exception):
+    """A call is refused, and answers this number alone."""
+
+    def __init__(self, number):
+        self.number = number
+
+
+class TextTooLong(Refusal):
+    """The text has more bytes than are read."""
+
+    def __init__(self):
+        Refusal.__init__(self, -2)
+
+
+class NoInstrument(Refusal):
+    """The text handed in is no instrument's."""
+
+    def __init__(self):
+        Refusal.__init__(self, -6)
+
+
+class NoPlace(Refusal):
+    """There is no such place or no such fret."""
+
+    def __init__(self):
+        Refusal.__init__(self, -4)

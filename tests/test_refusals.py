@@ -1,0 +1,58 @@
+"""Wrong inputs of the calls that ask for more than a text: each refusal is its number alone, the first one that holds."""
+
+import unittest
+
+from gutfrets.instruments import judge, lies, sizes, sound
+from helper import as_bytes, lines
+
+MOST_NUMBER = 2147483647
+RIGHT = as_bytes(lines("length 60000", "fret 2^1/12", "fret 2", "course 1", "course 3", "bass 2^-1"))
+# Each is no instrument's text, for a reason of its own.
+WRONG = [as_bytes(text) for text in (
+    "", "x", "length 60000\n", "length 9999\ncourse 1\n", "length 200001\ncourse 1\n", "length 60000\ncourse 1",
+    "length 60000\nfret 1\ncourse 1\n", "length 60000\nfret 2\nfret 2\ncourse 1\n", "length 60000\nbass 1\n",
+    "length 60000\nfret 2\ncourse 2^99\n", "length 60000\ncourse 2^100\n", "length 60000\ncourse 2^1\n",
+    "length 60000\n" + "course 1\n" * 15, "length 60000\ncourse 1\nfret 2\n", "length 60000\ncourse 1\n\n",
+)] + [RIGHT + [0] * (4096 - len(RIGHT)), [255] * 4096, [10] * 4096, RIGHT[:-1], RIGHT + [98]]
+TOO_LONG = [RIGHT + [0] * (4097 - len(RIGHT)), RIGHT + [10] * (8192 - len(RIGHT)), [0] * 4097, [255] * 8192]
+# For each call arguments that nothing is wrong with, then ones that are refused for themselves, and how.
+CALLS = {
+    "sizes": (lambda t: sizes(t), [()], []),
+    "lies": (lambda t, f: lies(f, t), [(0,), (1,), (2,)], [((3,), -4), ((MOST_NUMBER,), -4)]),
+    "sound": (
+        lambda t, c, f: sound(c, f, t), [(1, 0), (2, 2), (3, 0)],
+        [((0, 0), -4), ((1, 3), -4), ((3, 1), -4), ((4, 0), -4), ((MOST_NUMBER, MOST_NUMBER), -4)],
+    ),
+}
+
+
+class RefusalTest(unittest.TestCase):
+    def check_all(self, texts, number):
+        """That each call refuses the texts with this number, whatever else is handed in."""
+        for name, (call, right, refused) in CALLS.items():
+            for arguments in right + [told[0] for told in refused]:
+                for t in texts:
+                    self.assertEqual(call(t, *arguments), [number], (name, arguments, t[:40]))
+
+    def test_right_inputs(self):
+        for name, (call, right, refused) in CALLS.items():
+            for arguments in right:
+                self.assertGreaterEqual(call(RIGHT, *arguments)[0], 0, (name, arguments))
+
+    def test_too_long(self):
+        self.check_all(TOO_LONG, -2)
+        self.assertEqual([judge(t) for t in TOO_LONG], [[-2]] * len(TOO_LONG))
+
+    def test_no_instrument(self):
+        self.check_all(WRONG, -6)
+        for t in WRONG:
+            self.assertEqual([judge(t)[0], len(judge(t))], [-6, 2])
+
+    def test_refused_for_themselves(self):
+        for name, (call, right, refused) in CALLS.items():
+            for arguments, number in refused:
+                self.assertEqual(call(RIGHT, *arguments), [number], (name, arguments))
+
+
+if __name__ == "__main__":
+    unittest.main()
