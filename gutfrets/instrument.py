@@ -57,3 +57,18 @@ def open_string(instrument, c):
 def place_sound(instrument, c, f):
     """What place c, f sounds."""
     return upon(fret_interval(instrument, f), open_string(instrument, c))
+
+
+def all_places(instrument):
+    """All places as tuples of course and fret, by course, then fret."""
+    places = []
+    for c in range(1, count_strings(instrument) + 1):
+        places.append((c, 0))
+        if c <= len(instrument.courses):
+            places.extend([(c, f) for f in range(1, len(instrument.frets) + 1)])
+    return places
+
+
+def sounds_of(instrument, places):
+    """What each of the places sounds."""
+    return [place_sound(instrument, place[0], place[1]) for place in places]

@@ -2,11 +2,14 @@
 
 from gutfrets.instrument import count_strings, fret_interval, has_fret, has_place, place_sound
 from gutfrets.instrument_text import read_instrument
+from gutfrets.interval import is_interval, is_wider
 from gutfrets.lying import fret_lies
 from gutfrets.reading import TextFault
-from gutfrets.refusals import NoInstrument, NoPlace, Refusal, TextTooLong
+from gutfrets.refusals import NoInstrument, NoPlace, OutOfBounds, Refusal, TextTooLong
+from gutfrets.seeking import places_sounding
 
 MOST_BYTES = 4096
+MOST_OCTAVES = 1
 
 
 def judge(t):
@@ -49,6 +52,36 @@ def sound(c, f, t):
     return [1] + place_sound(instrument, c, f)
 
 
+def order(c, f, d, g, t):
+    """0 if place c, f sounds narrower than d, g, 1 if the same, 2 if wider."""
+    try:
+        instrument = instrument_of(t)
+        check_place(instrument, c, f)
+        check_place(instrument, d, g)
+    except Refusal as refusal:
+        return [refusal.number]
+    first = place_sound(instrument, c, f)
+    second = place_sound(instrument, d, g)
+    if first == second:
+        return [1]
+    return [2] if is_wider(first, second) else [0]
+
+
+def find(octaves, t, x):
+    """How many places sound x (octaves 1: or some octaves more or less), then the course and the fret of each."""
+    try:
+        instrument = instrument_of(t)
+        check_octaves(octaves)
+        check_interval(x)
+    except Refusal as refusal:
+        return [refusal.number]
+    places = places_sounding(instrument, x, octaves == 1)
+    answer = [len(places)]
+    for place in places:
+        answer.extend(place)
+    return answer
+
+
 def instrument_of(t):
     """The instrument whose text t is."""
     if len(t) > MOST_BYTES:
@@ -57,6 +90,18 @@ def instrument_of(t):
         return read_instrument(t)
     except TextFault:
         raise NoInstrument() from None
+
+
+def check_octaves(octaves):
+    """Refuses what neither asks for the same alone (0) nor for other octaves too (1)."""
+    if octaves > MOST_OCTAVES:
+        raise OutOfBounds()
+
+
+def check_interval(x):
+    """Refuses a list that is no interval."""
+    if not is_interval(x):
+        raise OutOfBounds()
 
 
 def check_fret(instrument, f):

@@ -42,6 +42,18 @@ def upon(x, y):
     return [number // factor for number in numbers]
 
 
+def less(x, y):
+    """x less y, told as of upon."""
+    inverse = [-power for power in y[:4]]
+    inverse.append(y[4])
+    return upon(x, inverse)
+
+
+def is_octaves(x):
+    """Whether x, in lowest terms, is some whole number of octaves, up, down or none."""
+    return x[1:] == [0, 0, 0, 1]
+
+
 def raised(base, power):
     """base to a power from 0 on; by squaring, as comparing intervals asks for powers of some thousands."""
     product = 1

@@ -22,6 +22,13 @@ class NoInstrument(Refusal):
         Refusal.__init__(self, -6)
 
 
+class OutOfBounds(Refusal):
+    """A number is out of its bounds, or a list is no interval."""
+
+    def __init__(self):
+        Refusal.__init__(self, -1)
+
+
 class NoPlace(Refusal):
     """There is no such place or no such fret."""
 

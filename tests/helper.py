@@ -260,3 +260,23 @@ def some_instrument(source):
             [3, 0, -1, 0, 1], [0, -1, 1, 0, 1], [-2, 0, 0, 1, 1], [-3, 1, 1, 0, 1], [1, 0, 0, 0, 1], [0, 1, 0, 0, 1])
     frets = [x for x in pure if source.random() < 0.7]
     return length, frets, told[:count], told[count:]
+
+
+def no_intervals():
+    """Lists of whole numbers that are no intervals: too few and too many, out of a bound, with a common factor."""
+    least, most = -2147483648, 2147483647
+    lists = [[], [0], [1], [0, 0, 0, 1], [1, 0, 0, 0], [1, 0, 0, 0, 1, 0], [0, 0, 0, 0, 1, 1], [0, 0, 0, 0, 1, 0, 0, 0]]
+    lists += [[0] * count for count in range(1, 9)] + [[1] * count for count in (1, 2, 3, 4, 6, 7, 8)]
+    for position in range(4):
+        for power in (100, -100, 101, 1000, least, most):
+            x = [0, 0, 0, 0, 1]
+            x[position] = power
+            lists.append(x)
+    lists += [[1, 0, 0, 0, divisor] for divisor in (25, 26, 0, -1, -24, least, most)]
+    lists += [[1, 1, 1, 1, 0], [-1, 1, 0, 0, -1], [99, 99, 99, 100, 1], [1, 2, 3, 4, 25]]
+    lists += [[0, 0, 0, 0, 2], [0, 0, 0, 0, 24], [2, 4, 0, 0, 2], [3, -6, 9, 0, 24], [0, 0, 0, 99, 3], [-12, 0, 0, 0, 12]]
+    lists += [[least] * 5, [most] * 5, [most] * 8, [least, most, 0, 0, 1]]
+    return lists
+
+
+NO_INTERVALS = no_intervals()

@@ -2,7 +2,9 @@
 
 import unittest
 
-from gutfrets.interval import common_factor, is_interval, is_wider, raised, unison, upon
+from gutfrets.interval import (
+    common_factor, is_interval, is_octaves, is_wider, less, raised, ratio_of, unison, upon,
+)
 
 
 class IntervalTest(unittest.TestCase):
@@ -40,6 +42,23 @@ class IntervalTest(unittest.TestCase):
         self.assertEqual(upon([0, 1, 0, 0, 2], [0, 0, 1, -1, 3]), [0, 3, 2, -2, 6])
         self.assertEqual(upon([5, -3, 1, 0, 7], [-5, 3, -1, 0, 7]), [0, 0, 0, 0, 1])
         self.assertEqual(upon([99, 0, 0, 0, 1], [1, 0, 0, 0, 1]), [100, 0, 0, 0, 1])
+
+    def test_less(self):
+        self.assertEqual(less([1, 0, 0, 0, 1], [-1, 1, 0, 0, 1]), [2, -1, 0, 0, 1])
+        self.assertEqual(less([1, 0, 0, 0, 6], [1, 0, 0, 0, 15]), [1, 0, 0, 0, 10])
+        self.assertEqual(less([5, -3, 1, 2, 7], [5, -3, 1, 2, 7]), [0, 0, 0, 0, 1])
+        self.assertEqual(less([-99, 0, 0, 0, 1], [1, 0, 0, 0, 1]), [-100, 0, 0, 0, 1])
+
+    def test_octaves(self):
+        for x in ([0, 0, 0, 0, 1], [1, 0, 0, 0, 1], [-7, 0, 0, 0, 1], [198, 0, 0, 0, 1]):
+            self.assertTrue(is_octaves(x), x)
+        for x in ([1, 0, 0, 0, 2], [1, 1, 0, 0, 1], [0, 0, -1, 0, 1], [2, 0, 0, 1, 1]):
+            self.assertFalse(is_octaves(x), x)
+
+    def test_ratio(self):
+        self.assertEqual(ratio_of([0, 0, 0, 0]), (1, 1))
+        self.assertEqual(ratio_of([3, -2, 1, -1]), (40, 63))
+        self.assertEqual(ratio_of([-1, 4, -3, 2]), (3969, 250))
 
     def test_raised(self):
         for base in (2, 3, 5, 7):

@@ -2,8 +2,8 @@
 
 import unittest
 
-from gutfrets.instruments import judge, lies, sizes, sound
-from helper import as_bytes, lines
+from gutfrets.instruments import find, judge, lies, order, sizes, sound
+from helper import NO_INTERVALS, as_bytes, lines
 
 MOST_NUMBER = 2147483647
 RIGHT = as_bytes(lines("length 60000", "fret 2^1/12", "fret 2", "course 1", "course 3", "bass 2^-1"))
@@ -15,13 +15,22 @@ WRONG = [as_bytes(text) for text in (
     "length 60000\n" + "course 1\n" * 15, "length 60000\ncourse 1\nfret 2\n", "length 60000\ncourse 1\n\n",
 )] + [RIGHT + [0] * (4096 - len(RIGHT)), [255] * 4096, [10] * 4096, RIGHT[:-1], RIGHT + [98]]
 TOO_LONG = [RIGHT + [0] * (4097 - len(RIGHT)), RIGHT + [10] * (8192 - len(RIGHT)), [0] * 4097, [255] * 8192]
+UNISON = [0, 0, 0, 0, 1]
+NO_PLACES = [(0, 0), (1, 3), (3, 1), (4, 0), (MOST_NUMBER, 0), (1, MOST_NUMBER), (MOST_NUMBER, MOST_NUMBER)]
 # For each call arguments that nothing is wrong with, then ones that are refused for themselves, and how.
 CALLS = {
     "sizes": (lambda t: sizes(t), [()], []),
     "lies": (lambda t, f: lies(f, t), [(0,), (1,), (2,)], [((3,), -4), ((MOST_NUMBER,), -4)]),
-    "sound": (
-        lambda t, c, f: sound(c, f, t), [(1, 0), (2, 2), (3, 0)],
-        [((0, 0), -4), ((1, 3), -4), ((3, 1), -4), ((4, 0), -4), ((MOST_NUMBER, MOST_NUMBER), -4)],
+    "sound": (lambda t, c, f: sound(c, f, t), [(1, 0), (2, 2), (3, 0)], [(place, -4) for place in NO_PLACES]),
+    "order": (
+        lambda t, c, f, d, g: order(c, f, d, g, t), [(1, 0, 1, 0), (1, 2, 3, 0), (3, 0, 2, 1)],
+        [(place + (1, 0), -4) for place in NO_PLACES] + [((3, 0) + place, -4) for place in NO_PLACES]
+        + [(place + place, -4) for place in NO_PLACES],
+    ),
+    "find": (
+        lambda t, x, octaves: find(octaves, t, x), [(UNISON, 0), (UNISON, 1), ([99, 0, 0, 0, 1], 1)],
+        [((UNISON, octaves), -1) for octaves in (2, MOST_NUMBER)]
+        + [((x, octaves), -1) for x in NO_INTERVALS for octaves in (0, 1, 2, MOST_NUMBER)],
     ),
 }
 
