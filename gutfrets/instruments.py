@@ -6,7 +6,7 @@ from gutfrets.interval import is_interval, is_wider
 from gutfrets.lying import fret_lies
 from gutfrets.reading import TextFault
 from gutfrets.refusals import NoInstrument, NoPlace, OutOfBounds, Refusal, TextTooLong
-from gutfrets.seeking import places_sounding
+from gutfrets.seeking import count_pairs, nearest_place, places_sounding
 
 MOST_BYTES = 4096
 MOST_OCTAVES = 1
@@ -80,6 +80,26 @@ def find(octaves, t, x):
     for place in places:
         answer.extend(place)
     return answer
+
+
+def near(t, x):
+    """The course and the fret of the place that sounds nearest to x, of as near ones the first."""
+    try:
+        instrument = instrument_of(t)
+        check_interval(x)
+    except Refusal as refusal:
+        return [refusal.number]
+    return list(nearest_place(instrument, x))
+
+
+def pairs(t, x):
+    """How many pairs of places of different courses there are, the second x upon the first (of the unison once)."""
+    try:
+        instrument = instrument_of(t)
+        check_interval(x)
+    except Refusal as refusal:
+        return [refusal.number]
+    return [count_pairs(instrument, x)]
 
 
 def instrument_of(t):

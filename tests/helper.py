@@ -191,6 +191,11 @@ def numbers_of(powers):
     return [int(power * divisor) for power in powers] + [divisor]
 
 
+def inverse(x):
+    """How far x lies the other way."""
+    return [-power for power in x[:4]] + [x[4]]
+
+
 def size_of(powers):
     """The logarithm of a ratio, to many digits."""
     size = Decimal(0)
@@ -280,3 +285,23 @@ def no_intervals():
 
 
 NO_INTERVALS = no_intervals()
+
+
+def second_near(places, x):
+    """The course and the fret of the first of the places that lies nearest to x, by logarithms to many digits."""
+    best = None
+    for c, f, powers in places:
+        between = abs(EXACT.subtract(size_of(powers), size_of(powers_of(x))))
+        if best is None or between < best[2] and EXACT.subtract(best[2], between) > Decimal("1e-90"):
+            best = (c, f, between)
+    return [best[0], best[1]]
+
+
+def second_pairs(places, x):
+    """How many pairs of the places are x apart: by each two places, and what lies between them."""
+    counted = {}
+    for c, f, powers in places:
+        for d, g, others in places:
+            if c != d and sum_of(powers, powers_of(x)) == others:
+                counted[frozenset({(c, f), (d, g)})] = True
+    return len(counted)

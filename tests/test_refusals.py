@@ -2,7 +2,7 @@
 
 import unittest
 
-from gutfrets.instruments import find, judge, lies, order, sizes, sound
+from gutfrets.instruments import find, judge, lies, near, order, pairs, sizes, sound
 from helper import NO_INTERVALS, as_bytes, lines
 
 MOST_NUMBER = 2147483647
@@ -16,10 +16,11 @@ WRONG = [as_bytes(text) for text in (
 )] + [RIGHT + [0] * (4096 - len(RIGHT)), [255] * 4096, [10] * 4096, RIGHT[:-1], RIGHT + [98]]
 TOO_LONG = [RIGHT + [0] * (4097 - len(RIGHT)), RIGHT + [10] * (8192 - len(RIGHT)), [0] * 4097, [255] * 8192]
 UNISON = [0, 0, 0, 0, 1]
+INTERVALS = [UNISON, [99, -99, 99, -99, 1], [1, 0, 0, 0, 24], [-1, 1, 0, 0, 1]]
 NO_PLACES = [(0, 0), (1, 3), (3, 1), (4, 0), (MOST_NUMBER, 0), (1, MOST_NUMBER), (MOST_NUMBER, MOST_NUMBER)]
 # For each call arguments that nothing is wrong with, then ones that are refused for themselves, and how.
 CALLS = {
-    "sizes": (lambda t: sizes(t), [()], []),
+    "sizes": (sizes, [()], []),
     "lies": (lambda t, f: lies(f, t), [(0,), (1,), (2,)], [((3,), -4), ((MOST_NUMBER,), -4)]),
     "sound": (lambda t, c, f: sound(c, f, t), [(1, 0), (2, 2), (3, 0)], [(place, -4) for place in NO_PLACES]),
     "order": (
@@ -32,6 +33,8 @@ CALLS = {
         [((UNISON, octaves), -1) for octaves in (2, MOST_NUMBER)]
         + [((x, octaves), -1) for x in NO_INTERVALS for octaves in (0, 1, 2, MOST_NUMBER)],
     ),
+    "near": (near, [(x,) for x in INTERVALS], [((x,), -1) for x in NO_INTERVALS]),
+    "pairs": (pairs, [(x,) for x in INTERVALS], [((x,), -1) for x in NO_INTERVALS]),
 }
 
 
