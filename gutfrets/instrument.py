@@ -1,6 +1,6 @@
 """What an instrument is: a length, and intervals for its frets, courses and basses."""
 
-from gutfrets.interval import is_interval, unison, upon
+from gutfrets.interval import is_interval, is_wider, unison, upon
 
 
 class Instrument:
@@ -16,6 +16,22 @@ class Instrument:
 def count_strings(instrument):
     """How many courses and basses there are."""
     return len(instrument.courses) + len(instrument.basses)
+
+
+def is_instrument(instrument):
+    """Whether the frets rise from the unison, and all open strings and each course with each fret sound intervals."""
+    before = unison()
+    for fret in instrument.frets:
+        if not is_interval(fret) or not is_wider(fret, before):
+            return False
+        before = fret
+    for course in instrument.courses:
+        if not is_interval(course) or not sounds_with_each(course, instrument.frets):
+            return False
+    for bass in instrument.basses:
+        if not is_interval(bass):
+            return False
+    return True
 
 
 def sounds_with_each(x, frets):

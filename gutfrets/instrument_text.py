@@ -1,8 +1,8 @@
-"""Reads an instrument from its text."""
+"""Reads an instrument from its text, and writes its text."""
 
 from gutfrets.instrument import Instrument, count_strings, sounds_with_each
 from gutfrets.interval import is_wider, unison
-from gutfrets.interval_text import read_interval
+from gutfrets.interval_text import read_interval, write_interval
 from gutfrets.reading import NO_BYTE, ONE, Reader, TextFault, expect, read_number
 
 LEAST_LENGTH = 10000
@@ -84,3 +84,22 @@ def read_bass(reader, instrument):
     x = read_interval(reader)
     expect(reader, "\n")
     instrument.basses.append(x)
+
+
+def write_instrument(instrument):
+    """The bytes of the instrument's text."""
+    length = instrument.length
+    text = f"length {length}\n"
+    text = text + write_lines("fret", instrument.frets)
+    text = text + write_lines("course", instrument.courses)
+    text = text + write_lines("bass", instrument.basses)
+    return [ord(sign) for sign in text]
+
+
+def write_lines(word, intervals):
+    """A line with this word for each of the intervals."""
+    text = ""
+    for x in intervals:
+        told = write_interval(x)
+        text = text + f"{word} {told}\n"
+    return text

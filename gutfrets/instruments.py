@@ -1,25 +1,23 @@
 """The calls: each takes an instrument's text as a list of bytes and answers a list of whole numbers."""
 
-from gutfrets.instrument import count_strings, fret_interval, has_fret, has_place, place_sound
-from gutfrets.instrument_text import read_instrument
-from gutfrets.interval import is_interval, is_wider
+from gutfrets.checks import IN_ANY_OCTAVE, check_different, check_fret, check_interval, check_octaves
+from gutfrets.checks import check_octaves_asked, check_place, check_tied_fret, instrument_of, text_of
+from gutfrets.instrument import count_strings, fret_interval, place_sound
+from gutfrets.interval import is_wider
 from gutfrets.lying import fret_lies
-from gutfrets.reading import TextFault
-from gutfrets.refusals import NoInstrument, NoPlace, OutOfBounds, Refusal, TextTooLong
+from gutfrets.refusals import NoInstrument, Refusal
 from gutfrets.seeking import count_pairs, nearest_place, places_sounding
-
-MOST_BYTES = 4096
-MOST_OCTAVES = 1
+from gutfrets.tuning import tie_fret, tune_string
 
 
 def judge(t):
     """How many courses and basses; the refusal of no instrument's text has the place of the fault behind it."""
-    if len(t) > MOST_BYTES:
-        return [-2]
     try:
-        instrument = read_instrument(t)
-    except TextFault as fault:
-        return [-6, fault.place]
+        instrument = instrument_of(t)
+    except NoInstrument as refusal:
+        return [refusal.number, refusal.place]
+    except Refusal as refusal:
+        return [refusal.number]
     return [count_strings(instrument)]
 
 
@@ -71,11 +69,11 @@ def find(octaves, t, x):
     """How many places sound x (octaves 1: or some octaves more or less), then the course and the fret of each."""
     try:
         instrument = instrument_of(t)
-        check_octaves(octaves)
+        check_octaves_asked(octaves)
         check_interval(x)
     except Refusal as refusal:
         return [refusal.number]
-    places = places_sounding(instrument, x, octaves == 1)
+    places = places_sounding(instrument, x, octaves == IN_ANY_OCTAVE)
     answer = [len(places)]
     for place in places:
         answer.extend(place)
@@ -102,35 +100,25 @@ def pairs(t, x):
     return [count_pairs(instrument, x)]
 
 
-def instrument_of(t):
-    """The instrument whose text t is."""
-    if len(t) > MOST_BYTES:
-        raise TextTooLong()
+def tune(c, f, d, g, o, t):
+    """The text of the instrument in which fret f of course or bass c sounds o octaves above place d, g."""
     try:
-        return read_instrument(t)
-    except TextFault:
-        raise NoInstrument() from None
+        instrument = instrument_of(t)
+        check_octaves(o)
+        check_place(instrument, c, f)
+        check_place(instrument, d, g)
+        check_different(c, d)
+        return text_of(tune_string(instrument, c, f, d, g, o))
+    except Refusal as refusal:
+        return [refusal.number]
 
 
-def check_octaves(octaves):
-    """Refuses what neither asks for the same alone (0) nor for other octaves too (1)."""
-    if octaves > MOST_OCTAVES:
-        raise OutOfBounds()
-
-
-def check_interval(x):
-    """Refuses a list that is no interval."""
-    if not is_interval(x):
-        raise OutOfBounds()
-
-
-def check_fret(instrument, f):
-    """Refuses where there is no fret f."""
-    if not has_fret(instrument, f):
-        raise NoPlace()
-
-
-def check_place(instrument, c, f):
-    """Refuses where there is no place c, f."""
-    if not has_place(instrument, c, f):
-        raise NoPlace()
+def tie(f, t, x):
+    """The text of the instrument in which fret f's interval is x."""
+    try:
+        instrument = instrument_of(t)
+        check_interval(x)
+        check_tied_fret(instrument, f)
+        return text_of(tie_fret(instrument, f, x))
+    except Refusal as refusal:
+        return [refusal.number]

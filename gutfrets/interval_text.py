@@ -1,4 +1,4 @@
-"""Reads an interval's text where it stands in an instrument's text."""
+"""Reads an interval's text where it stands in an instrument's text, and writes one."""
 
 from gutfrets.interval import PRIMES, common_factor, is_interval, unison, upon
 from gutfrets.reading import LINE_END, NO_BYTE, ONE, ZERO, TextFault, expect, read_number
@@ -85,3 +85,21 @@ def factor_of(position, n, d):
     factor[position] = n
     factor[4] = d
     return factor
+
+
+def write_interval(x):
+    """The text of the interval x."""
+    factors = [write_factor(PRIMES[k], x[k], x[4]) for k in range(4) if x[k] != 0]
+    return "1" if len(factors) == 0 else " ".join(factors)
+
+
+def write_factor(prime, n, d):
+    """The text of the prime to the power n/d, which isn't 0."""
+    factor = common_factor([n, d])
+    above = n // factor
+    below = d // factor
+    if below > 1:
+        return f"{prime}^{above}/{below}"
+    if above != 1:
+        return f"{prime}^{above}"
+    return f"{prime}"

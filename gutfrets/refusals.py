@@ -16,10 +16,11 @@ class TextTooLong(Refusal):
 
 
 class NoInstrument(Refusal):
-    """The text handed in is no instrument's."""
+    """The text handed in is no instrument's; it is at fault at this place."""
 
-    def __init__(self):
+    def __init__(self, place):
         Refusal.__init__(self, -6)
+        self.place = place
 
 
 class OutOfBounds(Refusal):
@@ -34,3 +35,10 @@ class NoPlace(Refusal):
 
     def __init__(self):
         Refusal.__init__(self, -4)
+
+
+class NoneComes(Refusal):
+    """What would come is no instrument."""
+
+    def __init__(self):
+        Refusal.__init__(self, -3)

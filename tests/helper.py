@@ -305,3 +305,42 @@ def second_pairs(places, x):
             if c != d and sum_of(powers, powers_of(x)) == others:
                 counted[frozenset({(c, f), (d, g)})] = True
     return len(counted)
+
+
+def second_text(length, frets, courses, basses):
+    """What is answered of an instrument of these powers: its text, or -3 if it is none."""
+    rising = all(is_rising(low, high) for low, high in zip([[Fraction(0)] * 4] + frets, frets))
+    bounded = all(is_bounded(powers) for powers in frets + courses + basses)
+    sounding = all(is_bounded(sum_of(course, fret)) for course in courses for fret in frets)
+    if not (rising and bounded and sounding):
+        return [-3]
+    return answered(write_instrument(length, *[[numbers_of(x) for x in told] for told in (frets, courses, basses)]))
+
+
+def answered(text):
+    """A text as it is answered: how many bytes, then these."""
+    return [len(text)] + as_bytes(text)
+
+
+def powers_of_parts(parts):
+    """The length, and frets, courses and basses by their powers."""
+    return [parts[0]] + [[powers_of(x) for x in told] for told in parts[1:]]
+
+
+def second_tune(parts, c, f, d, g, o):
+    """What tune answers of places that are there, c and d not one."""
+    length, frets, courses, basses = powers_of_parts(parts)
+    sounds = {(course, fret): powers for course, fret, powers in second_places(*parts[1:])}
+    fret = frets[f - 1] if f > 0 else [Fraction(0)] * 4
+    tuned = [p - q for p, q in zip(sounds[d, g], fret)]
+    tuned[0] += o
+    strings = courses + basses
+    strings[c - 1] = tuned
+    return second_text(length, frets, strings[:len(courses)], strings[len(courses):])
+
+
+def second_tie(parts, f, x):
+    """What tie answers of a fret that is there."""
+    length, frets, courses, basses = powers_of_parts(parts)
+    frets[f - 1] = powers_of(x)
+    return second_text(length, frets, courses, basses)

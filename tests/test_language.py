@@ -17,7 +17,8 @@ STATEMENTS = (
 )
 EXPRESSIONS = (
     ast.BoolOp, ast.BinOp, ast.UnaryOp, ast.Lambda, ast.IfExp, ast.Dict, ast.Compare, ast.Call, ast.Constant,
-    ast.Attribute, ast.Subscript, ast.Name, ast.List, ast.Tuple, ast.Slice, ast.ListComp,
+    ast.Attribute, ast.Subscript, ast.Name, ast.List, ast.Tuple, ast.Slice, ast.ListComp, ast.JoinedStr,
+    ast.FormattedValue,
 )
 OPERATORS = (
     ast.Add, ast.Sub, ast.Mult, ast.FloorDiv, ast.Mod, ast.BitAnd, ast.BitOr, ast.BitXor, ast.LShift, ast.RShift,
@@ -169,7 +170,7 @@ class LanguageTest(unittest.TestCase):
         for place, node in self.each(ast.Try):
             self.assertEqual(node.finalbody, [], place)
             for handler in node.handlers:
-                self.assertIn(handler.type.id, ("TextFault", "Refusal"), place)
+                self.assertIn(handler.type.id, ("TextFault", "NoInstrument", "Refusal"), place)
         for place, node in self.each(ast.Raise):
             self.assertIsInstance(node.exc, ast.Call, place)
         for place, node in self.each(ast.Expr):
@@ -185,6 +186,9 @@ class LanguageTest(unittest.TestCase):
             self.assertNotIn("%", str(node.value), place)
         for place, node in self.each(ast.Is, ast.IsNot):
             self.fail(place)
+        for place, node in self.each(ast.FormattedValue):
+            self.assertIsInstance(node.value, ast.Name, place)
+            self.assertIsNone(node.format_spec, place)
         for place, node in self.each(ast.ListComp):
             self.assertEqual(len(node.generators), 1, place)
             self.assertLessEqual(len(node.generators[0].ifs), 1, place)

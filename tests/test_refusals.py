@@ -2,7 +2,7 @@
 
 import unittest
 
-from gutfrets.instruments import find, judge, lies, near, order, pairs, sizes, sound
+from gutfrets.instruments import find, judge, lies, near, order, pairs, sizes, sound, tie, tune
 from helper import NO_INTERVALS, as_bytes, lines
 
 MOST_NUMBER = 2147483647
@@ -18,6 +18,7 @@ TOO_LONG = [RIGHT + [0] * (4097 - len(RIGHT)), RIGHT + [10] * (8192 - len(RIGHT)
 UNISON = [0, 0, 0, 0, 1]
 INTERVALS = [UNISON, [99, -99, 99, -99, 1], [1, 0, 0, 0, 24], [-1, 1, 0, 0, 1]]
 NO_PLACES = [(0, 0), (1, 3), (3, 1), (4, 0), (MOST_NUMBER, 0), (1, MOST_NUMBER), (MOST_NUMBER, MOST_NUMBER)]
+FAR_OCTAVES = [-10, 10, -MOST_NUMBER - 1, MOST_NUMBER]
 # For each call arguments that nothing is wrong with, then ones that are refused for themselves, and how.
 CALLS = {
     "sizes": (sizes, [()], []),
@@ -32,6 +33,20 @@ CALLS = {
         lambda t, x, octaves: find(octaves, t, x), [(UNISON, 0), (UNISON, 1), ([99, 0, 0, 0, 1], 1)],
         [((UNISON, octaves), -1) for octaves in (2, MOST_NUMBER)]
         + [((x, octaves), -1) for x in NO_INTERVALS for octaves in (0, 1, 2, MOST_NUMBER)],
+    ),
+    "tune": (
+        lambda t, c, f, d, g, o: tune(c, f, d, g, o, t), [(1, 0, 2, 0, 0), (3, 0, 1, 2, 9), (3, 0, 1, 0, -9)],
+        [((1, 0, 2, 0, o), -1) for o in FAR_OCTAVES] + [((1, 0, 1, 0, o), -1) for o in FAR_OCTAVES]
+        + [(place + (2, 0, 10), -1) for place in NO_PLACES] + [((2, 0) + place + (-10,), -1) for place in NO_PLACES]
+        + [(place + (2, 0, 9), -4) for place in NO_PLACES] + [((2, 0) + place + (-9,), -4) for place in NO_PLACES]
+        + [(place + place + (0,), -4) for place in NO_PLACES + [(1, 0), (2, 1), (3, 0)]]
+        + [((2, 1, 3, 0, -9), -3), ((1, 1, 2, 0, 9), -3)],
+    ),
+    "tie": (
+        lambda t, f, x: tie(f, t, x), [(1, [1, 0, 0, 0, 24]), (2, [-1, 1, 0, 0, 1]), (2, [1, 0, 0, 0, 1])],
+        [((f, x), -1) for x in NO_INTERVALS for f in (0, 1, 2, 3, MOST_NUMBER)]
+        + [((f, x), -4) for x in INTERVALS for f in (0, 3, MOST_NUMBER)]
+        + [((1, UNISON), -3), ((1, [1, 0, 0, 0, 1]), -3), ((2, [1, 0, 0, 0, 12]), -3), ((2, [99, 99, 0, 0, 1]), -3)],
     ),
     "near": (near, [(x,) for x in INTERVALS], [((x,), -1) for x in NO_INTERVALS]),
     "pairs": (pairs, [(x,) for x in INTERVALS], [((x,), -1) for x in NO_INTERVALS]),
