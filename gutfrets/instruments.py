@@ -7,7 +7,7 @@ from gutfrets.interval import is_wider
 from gutfrets.lying import fret_lies
 from gutfrets.refusals import NoInstrument, Refusal
 from gutfrets.seeking import count_pairs, nearest_place, places_sounding
-from gutfrets.tuning import tie_fret, tune_string
+from gutfrets.tuning import raise_strings, tie_fret, tune_string
 
 
 def judge(t):
@@ -120,5 +120,15 @@ def tie(f, t, x):
         check_interval(x)
         check_tied_fret(instrument, f)
         return text_of(tie_fret(instrument, f, x))
+    except Refusal as refusal:
+        return [refusal.number]
+
+
+def raise_by(t, x):
+    """The text of the instrument in which all open strings, the basses' too, are raised by x."""
+    try:
+        instrument = instrument_of(t)
+        check_interval(x)
+        return text_of(raise_strings(instrument, x))
     except Refusal as refusal:
         return [refusal.number]

@@ -1,4 +1,4 @@
-"""Tunes and ties: each answers another instrument, which may break what must hold of one."""
+"""Tunes, ties and raises: each answers another instrument, which may break what must hold of one."""
 
 from gutfrets.instrument import Instrument, fret_interval, place_sound
 from gutfrets.interval import less, upon
@@ -29,4 +29,13 @@ def tie_fret(instrument, f, x):
     """The instrument in which fret f's interval is x."""
     other = copied(instrument)
     other.frets[f - 1] = x
+    return other
+
+
+def raise_strings(instrument, x):
+    """The instrument in which all open strings are raised by x."""
+    other = Instrument(instrument.length)
+    other.frets.extend(instrument.frets)
+    other.courses.extend([upon(x, course) for course in instrument.courses])
+    other.basses.extend([upon(x, bass) for bass in instrument.basses])
     return other

@@ -344,3 +344,10 @@ def second_tie(parts, f, x):
     length, frets, courses, basses = powers_of_parts(parts)
     frets[f - 1] = powers_of(x)
     return second_text(length, frets, courses, basses)
+
+
+def second_raise(parts, x):
+    """What raise_by answers."""
+    length, frets, courses, basses = powers_of_parts(parts)
+    by = powers_of(x)
+    return second_text(length, frets, [sum_of(y, by) for y in courses], [sum_of(y, by) for y in basses])

@@ -2,7 +2,7 @@
 
 import unittest
 
-from gutfrets.instruments import find, judge, lies, near, order, pairs, sizes, sound, tie, tune
+from gutfrets.instruments import find, judge, lies, near, order, pairs, raise_by, sizes, sound, tie, tune
 from helper import as_bytes, lines
 
 HEAD = "length 60000\n"
@@ -19,6 +19,8 @@ CALLS = (
     (find, 1, None, [2, 0, 0, 0, 2]), (find, 0, None, []), (find, 2, None, [1, 2, 3, 4, 5, 6, 7, 8]),
     (tune, 1, 1, 2, 0, 3, None), (tune, 2, 0, 1, 2, -9, None), (tune, 1, 0, 1, 0, 0, None), (tune, 1, 0, 2, 0, 10, None),
     (tie, 1, None, [1, 0, 0, 0, 24]), (tie, 2, None, [1, 0, 0, 0, 12]), (tie, 0, None, [1, 0, 0, 0, 1]), (tie, 2, None, []),
+    (raise_by, None, [0, 0, 0, 0, 1]), (raise_by, None, [-1, 1, 0, 0, 1]), (raise_by, None, [99, 0, 0, 0, 1]),
+    (raise_by, None, [1, 0, 0, 0, 23]), (raise_by, None, [0, 0, 0, 0, 0, 0]), (raise_by, None, [2, 2, 2, 2, 2]),
     (near, None, [0, 0, 0, 0, 1]), (near, None, [-1, 0, 0, 0, 5]), (near, None, [2, 0, 0, 0, 4]), (near, None, []),
     (pairs, None, [0, 0, 0, 0, 1]), (pairs, None, [1, 0, 0, 0, 1]), (pairs, None, [0, 0, 0, 0, 0]), (pairs, None, [1] * 8),
 )

@@ -2,7 +2,7 @@
 
 import unittest
 
-from gutfrets.instruments import find, judge, lies, near, order, pairs, sizes, sound, tie, tune
+from gutfrets.instruments import find, judge, lies, near, order, pairs, raise_by, sizes, sound, tie, tune
 from helper import NO_INTERVALS, as_bytes, lines
 
 MOST_NUMBER = 2147483647
@@ -50,6 +50,10 @@ CALLS = {
     ),
     "near": (near, [(x,) for x in INTERVALS], [((x,), -1) for x in NO_INTERVALS]),
     "pairs": (pairs, [(x,) for x in INTERVALS], [((x,), -1) for x in NO_INTERVALS]),
+    "raise_by": (
+        raise_by, [(UNISON,), ([1, 0, 0, 0, 24],), ([-1, 1, 0, 0, 1],)],
+        [((x,), -1) for x in NO_INTERVALS] + [(([99, -99, 99, -99, 1],), -3), (([1, 0, 0, 0, 23],), -3)],
+    ),
 }
 
 
