@@ -103,7 +103,7 @@ class LiesTest(unittest.TestCase):
             self.check_one(length + 1, fret, second_lies(length + 1, powers_of(fret)))
 
     def test_a_little_short_of_the_middle(self):
-        # What is left of the string is these halves and less than a thousand millionth of a millionth part more.
+        # What is left of the string is these halves and less than a millionth of a millionth more.
         short = (
             (179708, 231, [-16, 95, -62, 60, 15]), (64277, 39039, [-43, 56, 18, -22, 15]),
             (44119, 10643, [68, -56, -84, 91, 13]), (151841, 13949, [-54, 0, 56, -16, 7]),
